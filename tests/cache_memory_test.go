@@ -16,23 +16,17 @@ func spoilCache(c []impl.Cached) {
 	}
 }
 
-// cacheChange is one of the two functions that return a cache, with all its arguments but the cache.
-type cacheChange struct {
-	name string
-	run  func(c []impl.Cached) []impl.Cached
-}
-
 // cacheChanges has puts of pages that are there and that are not, and drops, among them those that change nothing.
-func cacheChanges() []cacheChange {
-	list := []cacheChange{}
+func cacheChanges() []listChange[impl.Cached] {
+	list := []listChange[impl.Cached]{}
 	for _, x := range append(writtenOut(), again(zeroPage), again(lastPage), impl.Cached{Env: 1, Page: 7, Frame: 3}) {
-		list = append(list, cacheChange{"CachePut", func(c []impl.Cached) []impl.Cached {
+		list = append(list, listChange[impl.Cached]{"CachePut", func(c []impl.Cached) []impl.Cached {
 			got, _ := impl.CachePut(c, x)
 			return got
 		}})
 	}
 	for env := -1; env <= 3; env++ {
-		list = append(list, cacheChange{"CacheDrop", func(c []impl.Cached) []impl.Cached { return impl.CacheDrop(c, env) }})
+		list = append(list, listChange[impl.Cached]{"CacheDrop", func(c []impl.Cached) []impl.Cached { return impl.CacheDrop(c, env) }})
 	}
 	return list
 }
@@ -65,46 +59,17 @@ func TestCachesAreLeft(t *testing.T) {
 	}
 }
 
-// appendToCache writes behind the cache if there is room, and not to the cache itself.
-func appendToCache(c []impl.Cached) {
-	_ = append(c, spoiled)
-}
-
-// P21, P22, P24: a result shares nothing with the argument: neither is changed with the other one, nor by an append to it.
+// P21, P22, P24: a result shares nothing with the argument.
 func TestChangedCachesShareNothing(t *testing.T) {
 	for _, start := range writtenCaches() {
-		for _, x := range cacheChanges() {
-			for _, write := range []func([]impl.Cached){spoilCache, appendToCache} {
-				c := roomy(start)
-				behind := slices.Clone(c[:cap(c)])
-				got := x.run(c)
-				want := slices.Clone(got)
-				write(got)
-				if !slices.Equal(c[:cap(c)], behind) {
-					t.Errorf("%s: a change of the result changes %v to %v", x.name, behind, c[:cap(c)])
-				}
-				got = x.run(c)
-				write(c)
-				if !slices.Equal(got, want) {
-					t.Errorf("%s: a change of the argument changes %v to %v", x.name, want, got)
-				}
-			}
-		}
+		checkApart(t, start, roomy, spoiled, cacheChanges())
 	}
 }
 
 // P21, P22, P24: the results of two calls share nothing, though the arguments are the same.
 func TestTwoResultsShareNothing(t *testing.T) {
 	for _, c := range writtenCaches() {
-		for _, x := range cacheChanges() {
-			one, two := x.run(c), x.run(c)
-			want := slices.Clone(two)
-			_ = append(one, spoiled)
-			spoilCache(one)
-			if !slices.Equal(two, want) {
-				t.Errorf("%s: a change of one result changes another one from %v to %v", x.name, want, two)
-			}
-		}
+		checkResultsApart(t, c, roomy, spoiled, cacheChanges())
 	}
 }
 

@@ -13,32 +13,22 @@ func spoilRights(list []string) {
 	}
 }
 
-// appendToRights writes behind the list if there is room, and not to the list itself.
-func appendToRights(list []string) {
-	_ = append(list, "spoiled", "spoiled")
-}
-
 // roomyRights is the list in a slice with room behind it, which holds texts that do not count.
 func roomyRights(list []string) []string {
 	store := append(slices.Clone(list), "cccc", "a", "a", "d", "", "behind", "cccc", "behind")
 	return store[:len(list)]
 }
 
-type rightsChange struct {
-	name string
-	do   func(list []string) []string
-}
-
 // rightsChanges add and drop rights; among them are those that leave each list as it is.
-func rightsChanges() []rightsChange {
-	all := []rightsChange{}
+func rightsChanges() []listChange[string] {
+	all := []listChange[string]{}
 	for _, s := range append(slices.Clone(shortRights), "aaa", "abca", "cccc", "d", "aaaaa") {
 		all = append(all,
-			rightsChange{"RightsAdd of " + s, func(list []string) []string {
+			listChange[string]{"RightsAdd of " + s, func(list []string) []string {
 				got, _ := impl.RightsAdd(list, s)
 				return got
 			}},
-			rightsChange{"RightsDrop of " + s, func(list []string) []string { return impl.RightsDrop(list, s) }})
+			listChange[string]{"RightsDrop of " + s, func(list []string) []string { return impl.RightsDrop(list, s) }})
 	}
 	return all
 }
@@ -65,55 +55,24 @@ func TestRightsAreLeft(t *testing.T) {
 				t.Errorf("RightsMay(%q, %q) depends on what is behind it", start, s)
 			}
 		}
-		for _, x := range rightsChanges() {
-			if got, want := x.do(list), x.do(slices.Clip(slices.Clone(start))); !slices.Equal(got, want) {
-				t.Errorf("%s of %q is %q, with room behind it, and otherwise %q", x.name, start, got, want)
-			}
-			if !slices.Equal(list[:cap(list)], before) {
-				t.Fatalf("%s changes %q to %q", x.name, before, list[:cap(list)])
-			}
+		if !slices.Equal(list[:cap(list)], before) {
+			t.Fatalf("%q is changed to %q", before, list[:cap(list)])
 		}
+		checkUntouched(t, start, roomyRights, rightsChanges())
 	}
 }
 
-// P41, P42, P43: a result and the list of which it was made share nothing: neither is changed with the other one, nor by an append to it.
+// P41, P42, P43: a result and the list of which it was made share nothing.
 func TestChangedRightsShareNothing(t *testing.T) {
 	for _, start := range listsToChange() {
-		for _, x := range rightsChanges() {
-			for _, write := range []func([]string){spoilRights, appendToRights} {
-				list := roomyRights(start)
-				before := slices.Clone(list[:cap(list)])
-				write(x.do(list))
-				if !slices.Equal(list[:cap(list)], before) {
-					t.Fatalf("%s: a change of the result changes %q to %q", x.name, before, list[:cap(list)])
-				}
-				got := x.do(list)
-				want := slices.Clone(got)
-				write(list)
-				if !slices.Equal(got, want) {
-					t.Fatalf("%s: a change of %q changes the result from %q to %q", x.name, before, want, got)
-				}
-			}
-		}
+		checkApart(t, start, roomyRights, "spoiled", rightsChanges())
 	}
 }
 
 // P41, P42, P43: two results of one list share nothing.
 func TestTwoRightsShareNothing(t *testing.T) {
 	for _, start := range append(writtenRights(), mixedRights()[:30]...) {
-		for _, x := range rightsChanges() {
-			for _, y := range rightsChanges() {
-				list := roomyRights(start)
-				one, two := x.do(list), y.do(list)
-				want := slices.Clone(two)
-				longer := append(two, "more")
-				appendToRights(one)
-				spoilRights(one)
-				if !slices.Equal(two, want) || !slices.Equal(longer, append(want, "more")) {
-					t.Fatalf("of %q, a change of %s changes %s", start, x.name, y.name)
-				}
-			}
-		}
+		checkResultsApart(t, start, roomyRights, "spoiled", rightsChanges())
 	}
 }
 
