@@ -1,6 +1,7 @@
 package tests
 
 import (
+	"fmt"
 	"math"
 	"slices"
 	"strconv"
@@ -213,10 +214,16 @@ func invalidInfos() []namedInfos {
 	return slices.Concat(faultyInfos(), otherInfos(), doublyInvalidInfos())
 }
 
+// short is the beginning of what is printed of a value, as some lists are very long, and some texts in them have any bytes.
+func short(x any) string {
+	text := fmt.Sprint(x)
+	return strings.ToValidUTF8(text[:min(len(text), 500)], "?")
+}
+
 func checkInfos(t *testing.T, list []impl.Info, want bool) {
 	t.Helper()
 	if got := impl.InfosValid(list); got != want {
-		t.Errorf("InfosValid(%.200v) is %t", list[:min(len(list), 14)], got)
+		t.Errorf("InfosValid(%s) is %t", short(list), got)
 	}
 }
 
