@@ -153,7 +153,7 @@ func checkOtherParts(t *testing.T, name string, k impl.Kernel, want impl.Kernel)
 	}
 	if name != "the environments" {
 		for env, e := range k.Envs {
-			if e.Root != -1 || name != "the rights of "+strconv.Itoa(env) && !slices.Equal(e.Rights, want.Envs[env].Rights) {
+			if e.Root != want.Envs[env].Root || name != "the rights of "+strconv.Itoa(env) && !slices.Equal(e.Rights, want.Envs[env].Rights) {
 				t.Errorf("a change of %s changes environment %d to %v", name, env, e)
 			}
 		}
