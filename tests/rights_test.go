@@ -174,11 +174,11 @@ func TestRightsInEachOrder(t *testing.T) {
 }
 
 // permutations are all orders of a list.
-func permutations(list []string) [][]string {
+func permutations[T any](list []T) [][]T {
 	if len(list) == 0 {
-		return [][]string{{}}
+		return [][]T{{}}
 	}
-	all := [][]string{}
+	all := [][]T{}
 	for _, rest := range permutations(list[1:]) {
 		for at := range len(rest) + 1 {
 			all = append(all, slices.Insert(slices.Clone(rest), at, list[0]))
