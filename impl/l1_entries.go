@@ -92,7 +92,7 @@ func EntryKind(word int) int {
 
 // AddressCut returns the parts of an address: the indices in both tables, and the place in the frame.
 func AddressCut(address int) (int, int, int, bool) {
-	if !below(address, Pages*FrameWords) {
+	if !isAddress(address) {
 		return 0, 0, 0, false
 	}
 	// A table is a frame, so it has as many entries as a frame has words.
@@ -106,6 +106,10 @@ func AddressOf(page int, at int) (int, bool) {
 		return 0, false
 	}
 	return page*FrameWords + at, true
+}
+
+func isAddress(n int) bool {
+	return below(n, Pages*FrameWords)
 }
 
 // below tells whether n is one of the first numbers from 0 on, as many as limit.
